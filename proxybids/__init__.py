@@ -1,0 +1,1 @@
+"""Proxybids: highest bids that a house raises by steps."""

@@ -1,0 +1,86 @@
+"""Sales, bids and wrong values that several tests use."""
+
+import itertools
+import random
+
+LAMP = (((0, 1), (10, 2), (50, 5)), 5, 5)
+
+NOT_INTEGERS = [
+    True, False, None, "", "5", "a", "abc", [], [5], (), (5,), (5, 60), [[5]], ((5,),),
+    [[[[[[5]]]]]], ((((((5,),),),),),), [(None, True), ["a", ([],)]],
+]
+
+NOT_BIDDERS = [
+    "g", "", "ab", "A", "F", "`", " ", "a ", "abcdef", "bc", 0, 1, 5, True, False, None,
+    [], ["a"], (), ("a",), ("a", "b"), [[[[[["a"]]]]]], (((((("a",),),),),),),
+]
+
+NOT_SALES = [
+    None, True, False, 0, 5, "", "abc", "sale", [], (), [()], ((),), (None, None, None),
+    [((0, 1),), 5, 5], [[[0, 1]], 5, 5], ([(0, 1)], 5, 5), (([0, 1],), 5, 5),
+    (((0, 1),), 5), (((0, 1),), 5, 5, 5), ((0, 1), 5, 5), (0, 5, 5), ("0", 5, 5), ("ab", 5, 5),
+    ((), 5, 5), (((),), 5, 5), (((0,),), 5, 5), (((0, 1, 2),), 5, 5), (("01",), 5, 5),
+    (((((((0, 1),),),),),), 5, 5), [[[[[[5]]]]]], ((((((5,),),),),),),
+]
+
+NOT_BID_LISTS = [
+    None, True, False, 0, 5, "", "ab", "abc", (), (("a", 5),), ("a", 5), ((("a", 5),),),
+    ["a"], [5], [None], [True], [[]], [()], [["a", 5]], ["a5"], [("a",)], [("a", 5, 5)],
+    [(5, "a")], [("a", 5), None], [("a", 5), ["b", 6]], [[("a", 5)]], [(("a", 5),)],
+    [[[[[[5]]]]]], ((((((5,),),),),),), [(((((5,),),),),)],
+]
+
+# Small numbers make ties and neighbouring prices frequent.
+SMALL_SALES = [
+    (((0, 1),), 1, 1),
+    (((0, 1),), 3, 5),
+    (((0, 2),), 3, 3),
+    (((0, 3),), 2, 7),
+    (((0, 1), (4, 2)), 2, 2),
+    (((0, 1), (3, 3)), 2, 6),
+    (((0, 50),), 2, 9),
+]
+
+
+def small_cases():
+    """Yield all lists of up to 3 bids with small amounts, in each small sale."""
+    choices = list(itertools.product("abc", range(1, 9)))
+    for sale in SMALL_SALES:
+        for many in range(4):
+            for bids in itertools.product(choices, repeat=many):
+                yield sale, list(bids)
+
+
+def random_sale(source):
+    """Return a sale whose numbers come from the whole of their ranges."""
+    many = source.randint(1, 4)
+    bounds = [0] + sorted(source.sample(range(1, 201), many - 1))
+    steps = sorted(source.sample(range(1, source.choice([8, 51])), many))
+    start = source.randint(1, source.choice([5, 100]))
+    reserve = source.choice([start, source.randint(start, 200)])
+    return tuple(zip(bounds, steps)), start, reserve
+
+
+def random_bids(source):
+    """Return up to 8 bids, mostly from ranges in which many are not refused."""
+    letters = "abcdef"[:source.randint(1, 6)]
+    low = source.randint(1, 100)
+    high = source.randint(low, 200)
+    many = source.randint(0, 8)
+    amounts = [source.randint(low, high) for _ in range(many)]
+    if source.randint(0, 2):
+        amounts = sorted(amounts)
+    return [(source.choice(letters), amount) for amount in amounts]
+
+
+def large_cases():
+    """Yield many sales and bids, the same ones in each run."""
+    source = random.Random(20)
+    for _ in range(20000):
+        yield random_sale(source), random_bids(source)
+
+
+def all_cases():
+    """Yield the small cases and the large ones."""
+    yield from small_cases()
+    yield from large_cases()

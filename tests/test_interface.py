@@ -1,0 +1,34 @@
+"""The interface: each name, its arguments and the file that defines it."""
+
+import importlib
+import inspect
+import unittest
+
+FUNCTIONS = {
+    "sales": {
+        "is_sale": ["candidate"], "are_bids": ["candidate"], "next_price": ["sale", "price"],
+        "climb": ["sale", "price", "most"],
+    },
+    "running": {
+        "result": ["sale", "bids"], "states": ["sale", "bids"], "refused": ["sale", "bids"],
+        "winner": ["sale", "bids"], "leads": ["sale", "bids"],
+    },
+}
+
+
+class Interface(unittest.TestCase):
+    def test_functions(self):
+        for file, functions in FUNCTIONS.items():
+            module = importlib.import_module("proxybids." + file)
+            for name, arguments in functions.items():
+                with self.subTest(file=file, name=name):
+                    function = getattr(module, name)
+                    self.assertTrue(inspect.isfunction(function))
+                    self.assertEqual(function.__module__, "proxybids." + file)
+                    parameters = inspect.signature(function).parameters.values()
+                    self.assertEqual([each.name for each in parameters], arguments)
+                    self.assertTrue(all(each.default is each.empty for each in parameters))
+
+
+if __name__ == "__main__":
+    unittest.main()
