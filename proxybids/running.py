@@ -46,15 +46,34 @@ def state_after(sale, state, bid):
     return leader, price, held
 
 
-def states(sale, bids):
-    """Return the list of the states after each of the bids."""
+def last_state(sale, bids):
+    """Return the state after all bids, which are known to be right."""
+    state = NO_LEADER
+    for bid in bids:
+        state = state_after(sale, state, bid)
+    return state
+
+
+def succeeds(sale, state):
+    """Return whether a sale succeeds in a state."""
+    # Without a leader the amount is 0, which is less than every reserve.
+    return state[2] >= sale[2]
+
+
+def checked_bids(sale, bids):
+    """Return a new list of the bids, after asking whether sale and bids are right."""
     if not is_sale(sale):
         raise InvalidSale("sale is not a sale")
     if not are_bids(bids):
         raise InvalidBids("bids are not a list of at most 8 bids")
+    return list(bids)
+
+
+def states(sale, bids):
+    """Return the list of the states after each of the bids."""
     found = []
     state = NO_LEADER
-    for bid in bids:
+    for bid in checked_bids(sale, bids):
         state = state_after(sale, state, bid)
         found.append(state)
     return found
@@ -62,8 +81,7 @@ def states(sale, bids):
 
 def result(sale, bids):
     """Return the state after all bids."""
-    found = states(sale, bids)
-    return found[-1] if found else NO_LEADER
+    return last_state(sale, checked_bids(sale, bids))
 
 
 def refused(sale, bids):
@@ -74,9 +92,8 @@ def refused(sale, bids):
 
 def winner(sale, bids):
     """Return the winner, or None if the sale does not succeed."""
-    leader, _, amount = result(sale, bids)
-    # Without a leader the amount is 0, which is less than every reserve.
-    return leader if amount >= sale[2] else None
+    state = result(sale, bids)
+    return state[0] if succeeds(sale, state) else None
 
 
 def leads(sale, bids):

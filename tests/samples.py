@@ -30,6 +30,13 @@ NOT_BID_LISTS = [
     [[[[[[5]]]]]], ((((((5,),),),),),), [(((((5,),),),),)],
 ]
 
+NOT_BIDS = [
+    None, True, False, 0, 5, -1, "", "a", "a5", "ab", [], (), [()], ["a", 5], ("a",), ("a", 5, 5),
+    (5, "a"), [("a", 5)], (("a", 5),), ("a", 0), ("a", 201), ("a", -1), ("a", True), ("a", "5"),
+    ("a", None), ("a", [5]), ("a", (5,)), ("g", 5), ("", 5), ("ab", 5), ("A", 5), (None, 5),
+    (("a",), 5), (["a"], 5), [[[[[["a"]]]]]], (((((("a", 5),),),),),),
+]
+
 # Small numbers make ties and neighbouring prices frequent.
 SMALL_SALES = [
     (((0, 1),), 1, 1),
@@ -84,3 +91,25 @@ def all_cases():
     """Yield the small cases and the large ones."""
     yield from small_cases()
     yield from large_cases()
+
+
+def single_cases():
+    """Yield lists of bids of different bidders, from small and from large ranges."""
+    for sale in SMALL_SALES:
+        for many in range(4):
+            for amounts in itertools.product(range(1, 9), repeat=many):
+                yield sale, list(zip("abc", amounts))
+    source = random.Random(31)
+    for number in range(400):
+        many = source.randint(0, 6) if number < 60 else source.randint(2, 4)
+        low = source.randint(1, 100)
+        high = source.randint(low, min(200, low + source.choice([5, 20, 100])))
+        letters = source.sample("abcdef", many)
+        sale = random_sale(source)
+        yield sale, [(letter, source.randint(low, high)) for letter in letters]
+
+
+def further_cases():
+    """Yield sales and bids, few enough to try many further bids after each."""
+    yield from itertools.islice(small_cases(), 0, None, 97)
+    yield from itertools.islice(large_cases(), 1500)

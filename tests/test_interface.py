@@ -13,6 +13,19 @@ FUNCTIONS = {
         "result": ["sale", "bids"], "states": ["sale", "bids"], "refused": ["sale", "bids"],
         "winner": ["sale", "bids"], "leads": ["sale", "bids"],
     },
+    "orders": {
+        "are_single": ["bids"], "possible_winners": ["sale", "bids"],
+        "possible_prices": ["sale", "bids"], "does_order_matter": ["sale", "bids"],
+        "dearest_order": ["sale", "bids"], "cheapest_order": ["sale", "bids"],
+    },
+    "further": {
+        "least_accepted": ["sale", "bids", "bidder"], "least_leading": ["sale", "bids", "bidder"],
+        "price_with": ["sale", "bids", "bid"], "greatest_price": ["sale", "bids"],
+    },
+    "effects": {
+        "without_bid": ["sale", "bids", "index"], "raisers": ["sale", "bids"],
+        "needless": ["sale", "bids"], "deciding": ["sale", "bids"],
+    },
 }
 
 

@@ -1,14 +1,15 @@
-"""[0.2] (a), (b), (d) and what [0.3] says of lists, over many sales and bids."""
+"""[0.2] (a) to (e), over many sales and bids."""
 
-import copy
+import itertools
+import random
 import unittest
 
-from model import Model
+from model import Model, following
+from proxybids.effects import needless, without_bid
+from proxybids.further import price_with
+from proxybids.orders import possible_winners
 from proxybids.running import leads, refused, result, states, winner
-from proxybids.sales import are_bids, climb, is_sale, next_price
-from samples import LAMP, all_cases, large_cases
-
-BIDS = [("f", 2), ("a", 20), ("b", 15), ("c", 18), ("a", 20), ("b", 30), ("b", 31), ("e", 1)]
+from samples import all_cases, further_cases, large_cases, random_bids, single_cases
 
 
 class AsTheTextSays(unittest.TestCase):
@@ -58,6 +59,43 @@ class Promises(unittest.TestCase):
             else:
                 self.assertEqual((leader, amount), ("", 0), (sale, bids))
 
+    def test_c_greatest_amount(self):
+        reached = {"greater": 0, "just": 0}
+        for sale, bids in single_cases():
+            bounds = [sale[1]]
+            amounts = sorted([amount for _, amount in bids], reverse=True)
+            bounds += [following(sale[0], amount) for amount in amounts[1:2]]
+            if not bids or amounts[0] < max(bounds):
+                continue
+            best = max(bids, key=lambda bid: bid[1])[0]
+            for order in itertools.permutations(bids):
+                self.assertEqual(result(sale, list(order))[0], best, (sale, order))
+            succeeds = amounts[0] >= sale[2]
+            self.assertEqual(possible_winners(sale, bids), [best] if succeeds else [])
+            reached["just" if amounts[0] == max(bounds) else "greater"] += 1
+        self.assertGreater(min(reached.values()), 100)
+
+    def test_d_without_a_refused_bid(self):
+        for sale, bids in further_cases():
+            last = result(sale, bids)
+            out = refused(sale, bids)
+            self.assertEqual([index for index in needless(sale, bids) if index in out], out)
+            for index in out:
+                self.assertEqual(without_bid(sale, bids, index), last, (sale, bids))
+
+    def test_e_further_bid(self):
+        source = random.Random(5)
+        kinds = {"same": 0, "greater": 0, "eight": 0}
+        for sale, bids in large_cases():
+            before = result(sale, bids)[1]
+            for bid in random_bids(source)[:3]:
+                after = price_with(sale, bids, bid)
+                self.assertGreaterEqual(after, before, (sale, bids, bid))
+                kinds["same" if after == before else "greater"] += 1
+                kinds["eight"] += len(bids) == 8
+        for kind, number in kinds.items():
+            self.assertGreater(number, 1000, kind)
+
     def test_d_refused_bids_change_nothing(self):
         for sale, bids in all_cases():
             after = states(sale, bids)
@@ -65,79 +103,6 @@ class Promises(unittest.TestCase):
                 rest = bids[:index] + bids[index + 1:]
                 self.assertEqual(states(sale, rest), after[:index] + after[index + 1:], (sale, bids))
                 self.assertEqual(result(sale, rest), after[-1] if rest else ("", 0, 0))
-
-
-class Lists(unittest.TestCase):
-    def calls(self):
-        """Yield each function with arguments of its own."""
-        for function in (result, states, refused, winner, leads):
-            yield function, [LAMP, list(BIDS)]
-        yield are_bids, [list(BIDS)]
-        yield are_bids, [[["a", [5]], ("b", [None])]]
-        yield is_sale, [[[[0, 1]], 5, 5]]
-        yield is_sale, [LAMP]
-        yield next_price, [LAMP, 10]
-        yield climb, [LAMP, 8, 15]
-
-    def test_arguments_are_not_modified(self):
-        for function, arguments in self.calls():
-            before = copy.deepcopy(arguments)
-            function(*arguments)
-            self.assertEqual(arguments, before, function)
-
-    def test_arguments_are_not_modified_by_a_call_that_fails(self):
-        wrong = [("a", 20), ["b", 15], ("c", True)]
-        for function in (result, states, refused, winner, leads):
-            bids = copy.deepcopy(wrong)
-            with self.assertRaises(ValueError):
-                function(LAMP, bids)
-            self.assertEqual(bids, wrong)
-
-    def test_equal_arguments_give_equal_results(self):
-        for function, arguments in self.calls():
-            first = function(*copy.deepcopy(arguments))
-            self.assertEqual(function(*copy.deepcopy(arguments)), first, function)
-
-    def test_returned_lists_are_new(self):
-        for function, arguments in self.calls():
-            first = function(*arguments)
-            if not isinstance(first, list):
-                continue
-            expected = list(first)
-            self.assertIsNot(first, arguments[-1])
-            first.clear()
-            first.append("x")
-            second = function(*arguments)
-            self.assertEqual(second, expected, function)
-            self.assertIsNot(second, first)
-
-    def test_empty_lists_are_new_too(self):
-        bids = []
-        for function in (states, refused, leads):
-            first = function(LAMP, bids)
-            self.assertEqual(first, [])
-            self.assertIsNot(first, bids)
-            first.append("x")
-            self.assertEqual(function(LAMP, bids), [])
-            self.assertEqual(bids, [])
-
-    def test_passed_lists_are_not_kept(self):
-        for function in (result, states, refused, winner, leads):
-            bids = list(BIDS)
-            first = function(LAMP, bids)
-            before = copy.deepcopy(first)
-            bids.clear()
-            self.assertEqual(first, before)
-            self.assertEqual(function(LAMP, list(BIDS)), before)
-            self.assertNotEqual(function(LAMP, bids), before)
-
-    def test_kinds(self):
-        self.assertIs(type(result(LAMP, BIDS)), tuple)
-        for state in states(LAMP, BIDS):
-            self.assertIs(type(state), tuple)
-            self.assertEqual([type(part) for part in state], [str, int, int])
-        for function in (refused, leads):
-            self.assertEqual({type(number) for number in function(LAMP, BIDS)}, {int})
 
 
 if __name__ == "__main__":

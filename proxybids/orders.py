@@ -1,0 +1,64 @@
+"""What bids lead to if they arrive in another order."""
+
+from itertools import permutations
+
+from proxybids.errors import InvalidBids, Repeated
+from proxybids.running import checked_bids, last_state, succeeds
+from proxybids.sales import are_bids
+
+
+def are_single(bids):
+    """Return whether bids are of different bidders."""
+    if not are_bids(bids):
+        raise InvalidBids("bids are not a list of at most 8 bids")
+    return len({bid[0] for bid in bids}) == len(bids)
+
+
+def all_orders(bids):
+    """Return the ascending list of the orders of different bids, each one a list."""
+    # The orders of a sorted list come in Python's order.
+    ordered = sorted(bids)
+    return [list(order) for order in permutations(ordered)]
+
+
+def all_ends(sale, bids):
+    """Return the list of all orders, ascending, each in a tuple with the state at its end."""
+    if not are_single(checked_bids(sale, bids)):
+        raise Repeated("a bidder has two bids")
+    return [(order, last_state(sale, order)) for order in all_orders(bids)]
+
+
+def end_price(end):
+    """Return the price of an order with the state at its end."""
+    return end[1][1]
+
+
+def possible_winners(sale, bids):
+    """Return the ascending list of the winners in all orders."""
+    ends = all_ends(sale, bids)
+    return sorted({state[0] for order, state in ends if succeeds(sale, state)})
+
+
+def possible_prices(sale, bids):
+    """Return the ascending list of the prices at the end in all orders."""
+    ends = all_ends(sale, bids)
+    return sorted({state[1] for order, state in ends})
+
+
+def does_order_matter(sale, bids):
+    """Return whether two orders have different leaders or prices at the end."""
+    ends = all_ends(sale, bids)
+    return len({(state[0], state[1]) for order, state in ends}) > 1
+
+
+def dearest_order(sale, bids):
+    """Return the first order with the greatest price at the end."""
+    ends = all_ends(sale, bids)
+    # Of several greatest ones, max takes the earliest, and the orders ascend.
+    return max(ends, key=end_price)[0]
+
+
+def cheapest_order(sale, bids):
+    """Return the first order with the least price at the end."""
+    ends = all_ends(sale, bids)
+    return min(ends, key=end_price)[0]
