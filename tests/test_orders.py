@@ -7,6 +7,7 @@ from model import Model
 from proxybids.errors import InvalidBids, InvalidSale, Repeated
 from proxybids.orders import (are_single, cheapest_order, dearest_order, does_order_matter,
                               possible_prices, possible_winners)
+from proxybids.running import refused
 from samples import (LAMP, NOT_BID_LISTS, NOT_BIDDERS, NOT_INTEGERS, NOT_SALES,
                      single_cases)
 
@@ -187,6 +188,23 @@ class GreatestAmount(unittest.TestCase):
     def test_one_bid(self):
         self.check(LAMP, [("a", 5)], ["a"])
         self.check(LAMP, [("a", 4)], [""])
+
+
+class RefusedInOrders(unittest.TestCase):
+    def test_below_start_in_every_order(self):
+        for sale, bids in single_cases():
+            for order in itertools.permutations(bids):
+                out = refused(sale, list(order))
+                low = [index for index, bid in enumerate(order) if bid[1] < sale[1]]
+                self.assertEqual([index for index in low if index in out], low, (sale, order))
+
+    def test_from_start_on_in_some_orders(self):
+        sale = (((0, 50),), 5, 5)
+        self.assertEqual(refused(sale, [("a", 5), ("b", 54)]), [1])
+        self.assertEqual(refused(sale, [("b", 54), ("a", 5)]), [1])
+        self.assertEqual(refused(sale, [("a", 5), ("b", 55)]), [])
+        self.assertEqual(possible_winners(sale, [("a", 5), ("b", 54)]), ["a", "b"])
+        self.assertEqual(possible_winners(sale, [("a", 5), ("b", 55)]), ["b"])
 
 
 class AsTheTextSays(unittest.TestCase):
