@@ -2,16 +2,22 @@
 
 from itertools import permutations
 
-from proxybids.errors import InvalidBids, Repeated
-from proxybids.running import checked_bids, last_state, succeeds
-from proxybids.sales import are_bids
+from proxybids.errors import Repeated
+from proxybids.running import check_bids, checked_bids, last_state, succeeds
 
 
 def are_single(bids):
     """Return whether bids are of different bidders."""
-    if not are_bids(bids):
-        raise InvalidBids("bids are not a list of at most 8 bids")
+    check_bids(bids)
     return len({bid[0] for bid in bids}) == len(bids)
+
+
+def checked_single(sale, bids):
+    """Return a new list of the bids, after asking also whether they are of different bidders."""
+    rows = checked_bids(sale, bids)
+    if not are_single(rows):
+        raise Repeated("a bidder has two bids")
+    return rows
 
 
 def all_orders(bids):
@@ -23,9 +29,8 @@ def all_orders(bids):
 
 def all_ends(sale, bids):
     """Return the list of all orders, ascending, each in a tuple with the state at its end."""
-    if not are_single(checked_bids(sale, bids)):
-        raise Repeated("a bidder has two bids")
-    return [(order, last_state(sale, order)) for order in all_orders(bids)]
+    rows = checked_single(sale, bids)
+    return [(order, last_state(sale, order)) for order in all_orders(rows)]
 
 
 def end_price(end):

@@ -1,7 +1,7 @@
 """What happens in a sale: the states, the refused bids and the winner."""
 
-from proxybids.errors import InvalidBids, InvalidSale
-from proxybids.sales import are_bids, is_sale, price_after
+from proxybids.errors import InvalidBids
+from proxybids.sales import are_bids, check_sale, price_after
 
 NO_LEADER = ("", 0, 0)
 
@@ -60,12 +60,16 @@ def succeeds(sale, state):
     return state[2] >= sale[2]
 
 
-def checked_bids(sale, bids):
-    """Return a new list of the bids, after asking whether sale and bids are right."""
-    if not is_sale(sale):
-        raise InvalidSale("sale is not a sale")
+def check_bids(bids):
+    """Raise an error if a value is not bids."""
     if not are_bids(bids):
         raise InvalidBids("bids are not a list of at most 8 bids")
+
+
+def checked_bids(sale, bids):
+    """Return a new list of the bids, after asking whether sale and bids are right."""
+    check_sale(sale)
+    check_bids(bids)
     return list(bids)
 
 

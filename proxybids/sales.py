@@ -88,10 +88,15 @@ def price_after(steps, price):
     return price + reached[-1]
 
 
-def next_price(sale, price):
-    """Return the next price after a price."""
+def check_sale(sale):
+    """Raise an error if a value is not a sale."""
     if not is_sale(sale):
         raise InvalidSale("sale is not a sale")
+
+
+def next_price(sale, price):
+    """Return the next price after a price."""
+    check_sale(sale)
     if not fits(price, 0, MOST_PRICE):
         raise InvalidPrice("price is not an integer from 0 to 200")
     return price_after(sale[0], price)

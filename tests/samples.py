@@ -37,6 +37,19 @@ NOT_BIDS = [
     (("a",), 5), (["a"], 5), [[[[[["a"]]]]]], (((((("a", 5),),),),),),
 ]
 
+NOT_TIMED = [
+    None, True, False, 0, 5, "", "abc", (), ((0, "a", 5),), (0, "a", 5), [5], ["0a5"], [[]], [()],
+    [[0, "a", 5]], [("a", 5)], [(0, "a")], [(0, "a", 5, 5)], [(0, ("a", 5))], [("a", 0, 5)],
+    [(-1, "a", 5)], [(101, "a", 5)], [(True, "a", 5)], [(False, "a", 5)], [("0", "a", 5)],
+    [(None, "a", 5)], [([0], "a", 5)], [((0,), "a", 5)], [(0, "g", 5)], [(0, "", 5)],
+    [(0, "ab", 5)], [(0, "A", 5)], [(0, None, 5)], [(0, ["a"], 5)], [(0, "a", 0)],
+    [(0, "a", 201)], [(0, "a", -1)], [(0, "a", True)], [(0, "a", "5")], [(0, "a", None)],
+    [(0, "a", [5])], [(1, "a", 5), (0, "b", 6)], [(3, "a", 5), (4, "b", 6), (3, "c", 7)],
+    [(5, "a", 5), (True, "b", 6)], [(0, "a", 5), None], [(0, "a", 5), (1, "b", 0)],
+    [(0, "a", 5), [1, "b", 6]], [[(0, "a", 5)]], [((0, "a", 5),)], [(100, "a", 5), (101, "a", 6)],
+    [(5, "a", 20)] * 9, [[[[[[5]]]]]], ((((((5,),),),),),), [(((((5,),),),),)],
+]
+
 # Small numbers make ties and neighbouring prices frequent.
 SMALL_SALES = [
     (((0, 1),), 1, 1),
@@ -47,6 +60,22 @@ SMALL_SALES = [
     (((0, 1), (3, 3)), 2, 6),
     (((0, 50),), 2, 9),
 ]
+
+
+def spoiled(value):
+    """Yield values that are like a right value, but wrong at one place."""
+    if isinstance(value, int):
+        yield from (True, False, None, str(value), [value], (value,), [[[value]]])
+    elif isinstance(value, str):
+        yield from (True, False, None, 1, "", "g", value * 2, value.upper(), [value], (value,))
+    else:
+        yield tuple(value) if isinstance(value, list) else list(value)
+        yield from (True, False, None, 5, "abc", [value], (value,))
+        for place, part in enumerate(value):
+            for wrong in spoiled(part):
+                parts = list(value)
+                parts[place] = wrong
+                yield parts if isinstance(value, list) else tuple(parts)
 
 
 def small_cases():
@@ -113,3 +142,17 @@ def further_cases():
     """Yield sales and bids, few enough to try many further bids after each."""
     yield from itertools.islice(small_cases(), 0, None, 97)
     yield from itertools.islice(large_cases(), 1500)
+
+
+def timed_cases(many):
+    """Yield sales and timed bids with ends and spans, the same ones in each run."""
+    source = random.Random(43)
+    for _ in range(many):
+        bids = random_bids(source)
+        end = source.choice([0, source.randint(0, 100), 100])
+        early = max(0, end - 30)
+        times = sorted(source.choices(range(early, min(100, end + 30) + 1), k=len(bids)))
+        if source.randint(0, 2) == 0:
+            times = sorted(source.choices(range(101), k=len(bids)))
+        timed = [(time, bidder, amount) for time, (bidder, amount) in zip(times, bids)]
+        yield random_sale(source), timed, end, source.choice([0, 20, source.randint(0, 20)])

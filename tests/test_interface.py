@@ -26,6 +26,19 @@ FUNCTIONS = {
         "without_bid": ["sale", "bids", "index"], "raisers": ["sale", "bids"],
         "needless": ["sale", "bids"], "deciding": ["sale", "bids"],
     },
+    "knowing": {
+        "known_amount": ["sale", "bids"], "is_known": ["sale", "bids"],
+        "still_to_pay": ["sale", "bids"],
+    },
+    "several": {
+        "sold_to": ["sale", "bids", "many"], "common_price": ["sale", "bids", "many"],
+        "income": ["sale", "bids", "many"], "best_many": ["sale", "bids"],
+    },
+    "closing": {
+        "closing_time": ["sale", "timed", "end", "span"],
+        "counted": ["sale", "timed", "end", "span"],
+        "final": ["sale", "timed", "end", "span"], "least_span": ["sale", "timed", "end"],
+    },
 }
 
 
