@@ -15,13 +15,17 @@ class Model:
         self.states, self.refused, self.leads = [], [], []
         self.changes = 0
         for index, (bidder, amount) in enumerate(bids):
-            if self.takes(bidder, amount):
-                if self.amount >= self.reserve and self.price < self.reserve:
-                    self.price = self.reserve
-            else:
+            if not self.add(bidder, amount):
                 self.refused.append(index)
             self.states.append((self.leader, self.price, self.amount))
             self.leads.append(self.changes)
+
+    def add(self, bidder, amount):
+        """Add a bid, and return whether it is not refused."""
+        is_taken = self.takes(bidder, amount)
+        if is_taken and self.amount >= self.reserve and self.price < self.reserve:
+            self.price = self.reserve
+        return is_taken
 
     def takes(self, bidder, amount):
         if not self.leader:

@@ -2,7 +2,11 @@
 
 import importlib
 import inspect
+import os
 import unittest
+
+import proxybids
+from proxybids.desk import Desk
 
 FUNCTIONS = {
     "sales": {
@@ -39,6 +43,23 @@ FUNCTIONS = {
         "counted": ["sale", "timed", "end", "span"],
         "final": ["sale", "timed", "end", "span"], "least_span": ["sale", "timed", "end"],
     },
+    "stepping": {
+        "step_bids": ["sale", "bids", "bidder", "limit"],
+        "after_steps": ["sale", "bids", "bidder", "limit"],
+        "gain": ["sale", "bids", "bidder", "limit"],
+    },
+    "formats": {
+        "format_bids": ["bids"], "parse_bids": ["text"], "journal": ["sale", "bids"],
+    },
+    "naive": {
+        "naive_leading": ["sale", "bids", "bidder"], "naive_sold": ["sale", "bids", "many"],
+    },
+}
+
+# The methods of Desk, each one with its arguments behind the desk itself.
+METHODS = {
+    "__init__": ["sale"], "__eq__": ["other"], "__len__": [], "bids": [], "result": [],
+    "bid": ["bidder", "amount"], "lower": ["reserve"], "undo": [], "redo": [], "copy": [],
 }
 
 
@@ -54,6 +75,23 @@ class Interface(unittest.TestCase):
                     parameters = inspect.signature(function).parameters.values()
                     self.assertEqual([each.name for each in parameters], arguments)
                     self.assertTrue(all(each.default is each.empty for each in parameters))
+
+    def test_desk(self):
+        self.assertEqual(Desk.__module__, "proxybids.desk")
+        for name, arguments in METHODS.items():
+            with self.subTest(name):
+                # In the class itself, not only in a base class.
+                method = vars(Desk)[name]
+                self.assertTrue(inspect.isfunction(method))
+                parameters = list(inspect.signature(method).parameters.values())[1:]
+                self.assertEqual([each.name for each in parameters], arguments)
+                self.assertTrue(all(each.default is each.empty for each in parameters))
+
+    def test_files(self):
+        folder = os.path.dirname(proxybids.__file__)
+        files = sorted(name for name in os.listdir(folder) if name != "__pycache__")
+        names = ["__init__", "desk", "errors", *FUNCTIONS]
+        self.assertEqual(files, sorted(name + ".py" for name in names))
 
 
 if __name__ == "__main__":

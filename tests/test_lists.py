@@ -6,13 +6,16 @@ import unittest
 from proxybids.closing import closing_time, counted, final, least_span
 from proxybids.effects import deciding, needless, raisers, without_bid
 from proxybids.errors import Repeated
+from proxybids.formats import format_bids, journal, parse_bids
 from proxybids.further import greatest_price, least_accepted, least_leading, price_with
 from proxybids.knowing import is_known, known_amount, still_to_pay
+from proxybids.naive import naive_leading, naive_sold
 from proxybids.orders import (are_single, cheapest_order, dearest_order, does_order_matter,
                               possible_prices, possible_winners)
 from proxybids.running import leads, refused, result, states, winner
 from proxybids.sales import are_bids, climb, is_sale, next_price
 from proxybids.several import best_many, common_price, income, sold_to
+from proxybids.stepping import after_steps, gain, step_bids
 from samples import LAMP
 
 BIDS = [("f", 2), ("a", 20), ("b", 15), ("c", 18), ("a", 20), ("b", 30), ("c", 24), ("e", 1)]
@@ -20,21 +23,23 @@ SINGLE = [("c", 10), ("a", 11), ("b", 10), ("e", 4)]
 TIMED = [(8, "a", 20), (12, "b", 15), (12, "b", 15), (17, "c", 30), (30, "d", 40)]
 
 OF_BIDS = [result, states, refused, winner, leads, greatest_price, raisers, needless, deciding,
-           known_amount, is_known, still_to_pay]
+           known_amount, is_known, still_to_pay, journal]
 WITH_A_THIRD = [(least_accepted, "c"), (least_leading, "c"), (price_with, ("c", 34)),
-                (without_bid, 2)]
+                (naive_leading, "c"), (without_bid, 2)]
+WITH_A_LIMIT = [step_bids, after_steps, gain]
 OF_SINGLE_BIDS = [possible_winners, possible_prices, does_order_matter, dearest_order,
                   cheapest_order, best_many]
-WITH_MANY = [sold_to, common_price, income]
+WITH_MANY = [sold_to, common_price, income, naive_sold]
 WITH_TIMES = [(closing_time, [10, 5]), (counted, [10, 5]), (final, [10, 5]), (least_span, [20])]
 # With these arguments they answer the same as without any bids.
-AS_WITHOUT_BIDS = [without_bid, is_known]
+AS_WITHOUT_BIDS = [without_bid, is_known, gain]
 
 
 def calls_with(bids, single, timed):
     """Return each function that takes a sale and bids, with its arguments."""
     calls = [(function, [LAMP, list(bids)]) for function in OF_BIDS]
     calls += [(function, [LAMP, list(bids), third]) for function, third in WITH_A_THIRD]
+    calls += [(function, [LAMP, list(bids), "c", 40]) for function in WITH_A_LIMIT]
     calls += [(function, [LAMP, list(single)]) for function in OF_SINGLE_BIDS]
     calls += [(function, [LAMP, list(single), 2]) for function in WITH_MANY]
     calls += [(function, [LAMP, list(timed)] + times) for function, times in WITH_TIMES]
@@ -46,6 +51,10 @@ def all_calls():
     return calls_with(BIDS, SINGLE, TIMED) + [
         (are_bids, [list(BIDS)]),
         (are_bids, [[["a", [5]], ("b", [None])]]),
+        (are_bids, [None]),
+        (format_bids, [list(BIDS)]),
+        (parse_bids, [format_bids(BIDS)]),
+        (parse_bids, [""]),
         (are_single, [list(BIDS)]),
         (are_single, [list(SINGLE)]),
         (is_sale, [[[[0, 1]], 5, 5]]),
@@ -101,14 +110,15 @@ class Returned(unittest.TestCase):
             if not isinstance(first, list):
                 continue
             expected = list(first)
-            self.assertIsNot(first, arguments[-1])
+            for argument in arguments:
+                self.assertIsNot(first, argument)
             first.clear()
             first.append("x")
             second = function(*arguments)
             self.assertEqual(second, expected, function)
             self.assertIsNot(second, first)
             checked += 1
-        self.assertEqual(checked, 12)
+        self.assertEqual(checked, 16)
 
     def test_empty_lists_are_new_too(self):
         bids = []

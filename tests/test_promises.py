@@ -5,6 +5,7 @@ import random
 import unittest
 
 from model import Model, following
+from proxybids.desk import Desk
 from proxybids.effects import needless, without_bid
 from proxybids.further import price_with
 from proxybids.orders import possible_winners
@@ -95,6 +96,29 @@ class Promises(unittest.TestCase):
                 kinds["eight"] += len(bids) == 8
         for kind, number in kinds.items():
             self.assertGreater(number, 1000, kind)
+
+    def test_on_a_desk(self):
+        kinds = {"refused": 0, "leads": 0, "raised": 0, "kept": 0}
+        for sale, bids in itertools.islice(large_cases(), 8000):
+            desk = Desk(sale)
+            taken = []
+            for bidder, amount in bids:
+                before = desk.result()
+                word = desk.bid(bidder, amount)
+                leader, price, held = after = desk.result()
+                case = (sale, desk.bids())
+                self.assertTrue(before[1] <= price <= held, case)
+                if word == "refused":
+                    self.assertEqual(after, before, case)
+                else:
+                    taken.append((bidder, amount))
+                    best = max(taken, key=lambda bid: bid[1])
+                    self.assertEqual((leader, held), best, case)
+                kinds[word] += 1
+            self.assertEqual(desk.bids(), bids)
+            self.assertEqual(desk.result(), result(sale, bids))
+            self.assertEqual(desk.result(), result(sale, taken))
+        self.assertGreater(min(kinds.values()), 300)
 
     def test_d_refused_bids_change_nothing(self):
         for sale, bids in all_cases():

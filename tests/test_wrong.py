@@ -6,13 +6,16 @@ import unittest
 from proxybids import errors
 from proxybids.closing import closing_time, counted, final, least_span
 from proxybids.effects import deciding, needless, raisers, without_bid
+from proxybids.formats import format_bids, journal
 from proxybids.further import greatest_price, least_accepted, least_leading, price_with
 from proxybids.knowing import is_known, known_amount, still_to_pay
+from proxybids.naive import naive_leading, naive_sold
 from proxybids.orders import (are_single, cheapest_order, dearest_order, does_order_matter,
                               possible_prices, possible_winners)
 from proxybids.running import leads, refused, result, states, winner
 from proxybids.sales import climb, next_price
 from proxybids.several import best_many, common_price, income, sold_to
+from proxybids.stepping import after_steps, gain, step_bids
 from samples import (LAMP, NOT_BID_LISTS, NOT_BIDDERS, NOT_BIDS, NOT_INTEGERS, NOT_SALES,
                      NOT_TIMED, spoiled)
 
@@ -25,7 +28,7 @@ TWICE = [[("a", 20), ("b", 15), ("a", 30)], [("a", 5), ("a", 5)], [("c", 4)] * 8
 
 def outside(least, most):
     """Return integers that are not from least to most, and what is no integer."""
-    return [least - 1, most + 1, -most - 1, 10 ** 30, -10 ** 30] + NOT_INTEGERS
+    return [least - 1, most + 1, -1, -most - 1, 10 ** 30, -10 ** 30] + NOT_INTEGERS
 
 
 # Each kind of argument: a right value, then each error with the values that it is raised for.
@@ -42,6 +45,7 @@ KINDS = {
     "timed": (TIMED, [("InvalidTimed", NOT_TIMED + NOT_INTEGERS[:7])]),
     "end": (10, [("InvalidTime", outside(0, 100))]),
     "span": (5, [("InvalidTime", outside(0, 20))]),
+    "limit": (40, [("InvalidPrice", outside(1, 200))]),
 }
 
 # The kinds of the arguments. The documented exceptions come in the order of the arguments.
@@ -78,6 +82,13 @@ FUNCTIONS = {
     counted: ["sale", "timed", "end", "span"],
     final: ["sale", "timed", "end", "span"],
     least_span: ["sale", "timed", "end"],
+    step_bids: ["sale", "bids", "bidder", "limit"],
+    after_steps: ["sale", "bids", "bidder", "limit"],
+    gain: ["sale", "bids", "bidder", "limit"],
+    format_bids: ["bids"],
+    journal: ["sale", "bids"],
+    naive_leading: ["sale", "bids", "bidder"],
+    naive_sold: ["sale", "single", "many"],
 }
 
 
